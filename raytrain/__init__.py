@@ -1,0 +1,1 @@
+"""Trains of lenses, stops and resonators, decided for all rays, in exact fractions."""
