@@ -16,6 +16,28 @@ FUNCTIONS = {
         "passes_stop": "(stop, height)", "gone_through": "(element, ray)",
         "trace_ray": "(train, ray)", "exit_ray": "(train, ray)",
     },
+    "maps": {
+        "element_map": "(element)", "ray_transfer": "(train)", "apply_map": "(map_used, ray)",
+        "compose_maps": "(first, second)", "invert_map": "(map_used)",
+        "image_distance": "(map_used, distance)", "magnification": "(map_used, distance)",
+    },
+    "regions": {
+        "make_half_plane": "(p, q, r)", "half_planes_of": "(train)", "value_at": "(half_plane, ray)",
+        "contains_ray": "(half_planes, ray)", "is_empty": "(half_planes)", "determinant": "(first, second)",
+        "product": "(first, second)", "supremum": "(half_planes, p, q)", "infimum": "(half_planes, p, q)",
+        "direction_range": "(half_planes, p, q)", "region_kind": "(half_planes)", "line_of": "(half_planes)",
+        "sample_ray": "(half_planes)", "map_half_planes": "(map_used, half_planes)",
+    },
+    "shapes": {
+        "meeting": "(first, second)", "corners": "(half_planes)", "is_bounded": "(half_planes)",
+        "area": "(half_planes)",
+    },
+    "papers": {
+        "emptiness_certificate": "(half_planes)", "verify_emptiness": "(half_planes, certificate)",
+        "implication_certificate": "(half_planes, half_plane)",
+        "verify_implication": "(half_planes, half_plane, certificate)",
+        "sum_of": "(half_planes, certificate)", "is_implied": "(half_planes, half_plane)",
+    },
 }
 CLASSES = {
     "errors": {
