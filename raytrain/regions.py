@@ -31,6 +31,11 @@ def half_planes_of(train):
     return found
 
 
+def region_of(train):
+    """Return the half-planes of the edges of a train, in order."""
+    return [half_plane for _, half_plane in half_planes_of(train)]
+
+
 def edges_behind(before, index, stop):
     """Return the tuples (edge, half-plane at the entrance) of the stop with an index, by the map before it."""
     _, lower, upper = stop

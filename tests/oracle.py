@@ -2,7 +2,7 @@
 
 import itertools
 from fractions import Fraction
-from math import gcd, lcm
+from math import atan2, gcd, lcm, pi
 
 from tests.helper import exact, pair
 
@@ -138,3 +138,35 @@ def polygon_area(half_planes):
     aside = sorted([step for step in from_first if step[0] != 0], key=lambda step: step[1] / step[0])
     around = aside + upwards
     return sum(abs(one[0] * two[1] - one[1] * two[0]) for one, two in zip(around, around[1:])) / Fraction(2)
+
+
+def place_in_order(half_plane):
+    """Return what sorts half-planes with small numbers: the angle, and r in the measure of the shortest direction."""
+    p, q, r = half_plane
+    divisor = gcd(p, q)
+    angle = atan2(q // divisor, p // divisor)
+    return (angle if angle >= 0 else angle + 2 * pi, Fraction(r, divisor))
+
+
+def canonical_area(half_planes):
+    """Return the canonical half-planes of a region of the kind "area", with small numbers."""
+    different = sorted(set(half_planes), key=place_in_order)
+    return [half_plane for half_plane in different
+            if not implied([other for other in different if other != half_plane], half_plane)]
+
+
+def canonical(half_planes):
+    """Return the canonical half-planes of a region of half-planes with small numbers."""
+    found = kind(half_planes)
+    if found == "empty":
+        return [(1, 0, -1), (-1, 0, 0)]
+    if found == "area":
+        return canonical_area(half_planes)
+    height, slope = numbers_of(sample(half_planes))
+    if found == "point":
+        return [plane(1, 0, height), plane(0, 1, slope), plane(-1, -1, -height - slope)]
+    p, q, r = next(plane(p, q, r) for p, q, r in half_planes if bounds(half_planes, p, q) == (r, r))
+    low, high = bounds(half_planes, -q, p)
+    ends = [] if high is None else [plane(-q, p, high)]
+    ends += [] if low is None else [plane(q, -p, -low)]
+    return sorted([(p, q, r), (-p, -q, -r)] + ends, key=place_in_order)

@@ -25,6 +25,12 @@ BARRED_NAMES = set("register mro elements open input law version_info with_trace
 BARRED_WORDS = set(
     "type typing typing_extensions enum Enum IntEnum StrEnum Flag IntFlag Generic Protocol ABC ABCMeta"
     " namedtuple NamedTuple TypedDict TYPE_CHECKING abstractmethod".split())
+METHODS = set(
+    "append clear copy count endswith extend find get index insert isalnum isalpha isdigit islower isspace isupper"
+    " items join keys ljust lower lstrip partition pop remove replace reverse rfind rjust rpartition rsplit rstrip"
+    " setdefault split splitlines startswith strip update upper values zfill bit_length title capitalize swapcase"
+    " casefold center expandtabs removeprefix removesuffix rindex isascii isdecimal isnumeric istitle isidentifier"
+    " isprintable translate encode decode add discard sort format".split())
 STATEMENTS = (
     ast.Assign, ast.AugAssign, ast.AnnAssign, ast.If, ast.While, ast.For, ast.Return, ast.Break, ast.Continue,
     ast.Pass, ast.Raise, ast.Assert, ast.Delete, ast.Nonlocal, ast.Match, ast.With, ast.Try, ast.Expr,
@@ -174,6 +180,21 @@ class Names(unittest.TestCase):
             for node in ast.walk(tree):
                 if isinstance(node, ast.Name) and node.id in dir(builtins):
                     self.assertIn(node.id, CALLABLE_BUILTINS | ERRORS, f"{path.name}:{node.lineno}")
+
+    def test_only_allowed_methods_are_called(self):
+        own = {name for _, _, tree in sources() for name in methods_of(tree)} | {"__init__"}
+        for path, _, tree in sources():
+            for node in ast.walk(tree):
+                if isinstance(node, ast.Call) and isinstance(node.func, ast.Attribute):
+                    self.assertIn(node.func.attr, METHODS | own, f"{path.name}:{node.lineno}")
+
+    def test_all_that_is_imported_is_used(self):
+        for path, _, tree in sources():
+            imported = {alias.name for node in ast.walk(tree) if isinstance(node, ast.ImportFrom)
+                        for alias in node.names}
+            used = {node.id for node in ast.walk(tree) if isinstance(node, ast.Name)}
+            if path.stem != "__init__":
+                self.assertEqual(imported - used, set(), path.name)
 
     def test_no_local_name_is_that_of_an_import_or_a_class(self):
         for path, _, tree in sources():

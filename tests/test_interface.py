@@ -38,6 +38,19 @@ FUNCTIONS = {
         "verify_implication": "(half_planes, half_plane, certificate)",
         "sum_of": "(half_planes, certificate)", "is_implied": "(half_planes, half_plane)",
     },
+    "texts": {
+        "format_fraction": "(value)", "format_train": "(train)", "tokens_of": "(text)", "parse_train": "(text)",
+    },
+    "order": {
+        "cross": "(one, other)", "dot": "(one, other)", "opposite": "(half_plane)",
+        "comes_before": "(one, other)", "in_order": "(half_planes)",
+    },
+    "equivalence": {
+        "canonical_half_planes": "(half_planes)", "canonical_form": "(train)", "are_equivalent": "(train, other)",
+        "without_edge": "(train, edge)", "redundant_edges": "(train)", "simplify": "(train)",
+        "minimum_stops": "(train)",
+    },
+    "telling": {"distinguishing_ray": "(train, other)"},
 }
 CLASSES = {
     "errors": {

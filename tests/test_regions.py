@@ -10,7 +10,8 @@ from raytrain.maps import apply_map, ray_transfer
 from raytrain.rays import exit_ray, trace_ray
 from raytrain.regions import (
     contains_ray, determinant, direction_range, half_planes_of, infimum, is_empty, line_of, make_half_plane,
-    map_half_planes, product, region_kind, sample_ray, supremum, value_at,
+    map_half_planes, product, region_kind, region_of, sample_ray, supremum,
+    value_at,
 )
 from tests import oracle
 from tests.helper import HUGE, WIDE, exact, is_fraction, pair, small_fractions
@@ -85,7 +86,8 @@ class HalfPlanesOfTrains(unittest.TestCase):
 
     def test_a_ray_passes_exactly_if_all_half_planes_contain_it(self):
         for train in small_trains(60, 22):
-            half_planes = [half_plane for _, half_plane in half_planes_of(train)]
+            half_planes = region_of(train)
+            self.assertEqual(half_planes, [half_plane for _, half_plane in half_planes_of(train)])
             for found in GRID[::3]:
                 self.assertIs(contains_ray(half_planes, found), exit_ray(train, found) is not None)
 
