@@ -98,3 +98,23 @@ def nearest_to_zero(lower, upper):
     if upper is not None and sign(upper) < 0:
         return upper
     return ZERO
+
+
+def span_between(lowers, uppers):
+    """Return the greatest of some lower bounds and the least of some upper ones, or None if no number keeps all.
+
+    None stands in place of a bound that there is not.
+    """
+    lower = greatest_of(lowers)
+    upper = least_of(uppers)
+    if lower is not None and upper is not None and is_less(upper, lower):
+        return None
+    return (lower, upper)
+
+
+def whole_numbers(values):
+    """Return the integers that are the same positive multiple of the fractions of a list."""
+    scale = 1
+    for value in values:
+        scale = scale * value[1]
+    return [numerator * (scale // denominator) for numerator, denominator in values]

@@ -5,8 +5,8 @@ from itertools import combinations
 from raytrain.errors import NoDirection
 from raytrain.maps import IDENTITY, compose_maps, element_map, invert_map
 from raytrain.rationals import (
-    ONE, ZERO, add, common_divisor, divide, fraction, greatest_of, is_at_most, is_less, least_of, multiply,
-    nearest_to_zero, negative, sign, subtract,
+    ONE, ZERO, add, common_divisor, divide, fraction, greatest_of, is_at_most, least_of, multiply, nearest_to_zero,
+    negative, sign, span_between, subtract, whole_numbers,
 )
 
 
@@ -14,8 +14,7 @@ def make_half_plane(p, q, r):
     """Return the half-plane of the rays with p * height + q * slope <= r, for fractions."""
     if p == ZERO and q == ZERO:
         raise NoDirection()
-    scale = p[1] * q[1] * r[1]
-    whole = [value[0] * (scale // value[1]) for value in (p, q, r)]
+    whole = whole_numbers([p, q, r])
     divisor = common_divisor(common_divisor(whole[0], whole[1]), whole[2])
     return (whole[0] // divisor, whole[1] // divisor, whole[2] // divisor)
 
@@ -118,11 +117,7 @@ def span_on_line(line, half_planes):
             lowers.append(divide(room, fraction(growth)))
         elif sign(room) < 0:
             return None
-    lower = greatest_of(lowers)
-    upper = least_of(uppers)
-    if lower is not None and upper is not None and is_less(upper, lower):
-        return None
-    return (lower, upper)
+    return span_between(lowers, uppers)
 
 
 def some_ray(half_planes):
