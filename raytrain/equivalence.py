@@ -70,15 +70,18 @@ def half_plane_up_to(direction, ray):
 
 def canonical_form(train):
     """Return the canonical form of a train: its kind, its canonical half-planes and some exits."""
-    half_planes = region_of(train)
-    transfer = ray_transfer(train)
-    exits = [(ray, apply_map(transfer, ray)) for ray in telling_rays(half_planes)]
-    return (region_kind(half_planes), canonical_half_planes(half_planes), exits)
+    return form_of(canonical_half_planes(region_of(train)), ray_transfer(train))
 
 
-def telling_rays(half_planes):
-    """Return rays such that maps that agree on them agree on all rays of the region."""
+def form_of(half_planes, transfer):
+    """Return the canonical form of the trains that have a map, and a region with these canonical half-planes."""
     kind = region_kind(half_planes)
+    exits = [(ray, apply_map(transfer, ray)) for ray in telling_rays(kind, half_planes)]
+    return (kind, half_planes, exits)
+
+
+def telling_rays(kind, half_planes):
+    """Return rays such that maps that agree on them agree on all rays of the region, which has this kind."""
     if kind == "empty":
         return []
     if kind == "point":

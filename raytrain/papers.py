@@ -3,8 +3,11 @@
 from itertools import combinations
 
 from raytrain.errors import EmptyRegion
-from raytrain.rationals import ZERO, add, common_divisor, fraction, is_at_most, multiply, sign
-from raytrain.regions import determinant, is_empty, share_of, shares_of, supremum
+from raytrain.rationals import ZERO, add, common_divisor, fraction, is_at_most, multiply, nearest_to_zero, sign
+from raytrain.regions import (
+    contains_ray, determinant, half_planes_at, is_empty, ray_along, share_of, shares_of, some_ray, span_on_line,
+    supremum,
+)
 
 
 def sum_of(half_planes, certificate):
@@ -119,8 +122,16 @@ def first_implying_pair(half_planes, half_plane):
 
 def is_implied(half_planes, half_plane):
     """Return whether a half-plane contains all rays of a region."""
-    if is_empty(half_planes):
+    ray = some_ray(half_planes)
+    if ray is None:
         return True
-    p, q, r = [fraction(number) for number in half_plane]
-    bound = supremum(half_planes, p, q)
-    return bound is not None and is_at_most(bound, r)
+    if not contains_ray([half_plane], ray):
+        return False
+    span = span_on_line(half_plane, half_planes)
+    if span is None:
+        # All rays of the region lie on the same side of the line.
+        return True
+    lower, upper = span
+    touching = half_planes_at(half_planes, ray_along(half_plane, nearest_to_zero(lower, upper)))
+    p, q, _ = half_plane
+    return supremum(touching, fraction(p), fraction(q)) is not None

@@ -197,12 +197,15 @@ def direction_range(half_planes, p, q):
     return (infimum(half_planes, p, q), supremum(half_planes, p, q))
 
 
+def half_planes_at(half_planes, ray):
+    """Return the half-planes that have a ray of the region on their lines: near the ray, the others do nothing."""
+    return [half_plane for half_plane in half_planes if value_at(half_plane, ray) == fraction(half_plane[2])]
+
+
 def line_of(half_planes):
     """Return the first half-plane on whose line all rays of a region with rays lie, or None."""
-    ray = some_ray(half_planes)
-    # Near a ray of it, the region is the cone that the half-planes with this ray on their lines leave; so
-    # the region lies on one of these lines exactly if this cone does.
-    touching = [half_plane for half_plane in half_planes if value_at(half_plane, ray) == fraction(half_plane[2])]
+    # The region lies on one of these lines exactly if what it is near the ray does.
+    touching = half_planes_at(half_planes, some_ray(half_planes))
     for p, q, r in touching:
         if infimum(touching, fraction(p), fraction(q)) == fraction(r):
             return (p, q, r)

@@ -2,7 +2,7 @@
 
 from raytrain.equivalence import canonical_half_planes
 from raytrain.maps import IDENTITY, compose_maps, element_map, invert_map
-from raytrain.order import cross, dot
+from raytrain.order import cross
 from raytrain.rationals import ONE, ZERO, divide, fraction, multiply, negative, subtract
 from raytrain.regions import region_kind
 
@@ -25,8 +25,8 @@ def train_for_upright_map(transfer):
 
 
 def without_idle(train):
-    """Return the train without the gaps, lenses, prisms and afocal elements that do nothing."""
-    return [element for element in train if element[0] == "stop" or element_map(element) != IDENTITY]
+    """Return a train without stops, without those of its elements that do nothing."""
+    return [element for element in train if element_map(element) != IDENTITY]
 
 
 def train_for_region(transfer, half_planes):
@@ -45,17 +45,13 @@ def groups_of(half_planes):
         return [[half_plane] for half_plane in ordered]
     groups = []
     for half_plane in ordered:
-        partners = [group for group in groups if are_opposite(group[0], half_plane)]
+        # Two canonical half-planes never have the same direction: so linearly dependent ones are opposite.
+        partners = [group for group in groups if cross(group[0], half_plane) == 0]
         if partners:
             partners[0].append(half_plane)
         else:
             groups.append([half_plane])
     return groups
-
-
-def are_opposite(one, other):
-    """Return whether the directions of two half-planes are opposite, up to a positive factor."""
-    return cross(one, other) == 0 and dot(one, other) < 0
 
 
 def train_for_group(group):

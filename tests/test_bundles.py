@@ -198,7 +198,7 @@ class Pupils(unittest.TestCase):
 
     def test_rays_through_the_edges_of_the_pupil(self):
         zeros = 0
-        focussing = parse_train("lens 1; gap 1; stop from -2 to 1; gap 1; stop to 3; prism 2; gap -1; stop from -1 to 0")
+        focussing = parse_train("lens 1; gap 1; stop from -2 to 1; gap 1; stop to 3; prism 2; gap -1; stop from -1")
         for train in MANY + [focussing]:
             found = pupils(train)
             self.assertEqual([pupil[0] for pupil in found],
@@ -328,6 +328,24 @@ class Areas(unittest.TestCase):
                 self.assertEqual(pair(total), whole)
                 bounded += 1
         self.assertGreater(bounded, 60)
+
+
+class WideNumbers(unittest.TestCase):
+    TRAIN = [("stop", (-HUGE, 1), (HUGE, 1)), ("gap", (1, WIDE)), ("stop", (-HUGE, 1), (HUGE, 1))]
+
+    def test_pupils(self):
+        self.assertEqual(pupils(self.TRAIN), [(0, (0, 1), (-HUGE, 1), (HUGE, 1)),
+                                              (2, (-1, WIDE), (-HUGE, 1), (HUGE, 1))])
+
+    def test_fields_and_widths(self):
+        # At this distance in front, the height is twice the one at the first stop minus the one at the other one.
+        self.assertEqual(field_of_view(self.TRAIN, (1, WIDE)), ((-3 * HUGE, 1), (3 * HUGE, 1)))
+        self.assertEqual(bundle_widths(self.TRAIN, (1, WIDE)),
+                         [((-3 * HUGE, 1), (0, 1)), ((-HUGE, 1), (HUGE * WIDE, 1)), ((HUGE, 1), (HUGE * WIDE, 1)),
+                          ((3 * HUGE, 1), (0, 1))])
+
+    def test_areas(self):
+        self.assertEqual(acceptance_area(self.TRAIN), (4 * HUGE * HUGE * WIDE, 1))
 
 
 class Values(unittest.TestCase):

@@ -1,6 +1,5 @@
-"""Point [34], and the heading raytrain/forever.py of the interface; raytrain.hills too."""
+"""Point [34], and the heading raytrain/forever.py of the interface."""
 
-import decimal
 import itertools
 import random
 import unittest
@@ -8,8 +7,7 @@ from fractions import Fraction
 from math import isqrt
 
 from raytrain.forever import stays_below
-from raytrain.hills import told_by_jumps, told_by_steps
-from tests.helper import HUGE, WIDE, exact, pair
+from tests.helper import HUGE, WIDE, pair
 
 TINY = Fraction(1, 10 ** 30)
 
@@ -295,71 +293,6 @@ class TracesBelowMinusTwo(Base):
         self.check_around(-3, -HUGE, 0, 1, False)
         self.check_around(-HUGE, -HUGE ** 3, 1, -1, False)
         self.check_around(-2 - TINY, -HUGE, 1, -1, False)
-
-
-def sequence_with_top(trace, top, behind, steps):
-    """Return the first two of the values e that reach a top after so many steps, and another value behind it."""
-    one, two = top, behind
-    for _ in range(steps):
-        one, two = trace * one - two, one
-    return one, two
-
-
-def hills():
-    """Return tuples (trace, top, e(0), e(1)) of values e that rise to the top, and then fall."""
-    chance = random.Random(342)
-    found = []
-    for part in (1, 2, 3, 7, 50, 1000, 10 ** 6, 10 ** 12, WIDE):
-        for steps in (0, 1, 2, 5, 19, 40):
-            trace = 2 + Fraction(chance.choice([1, 2, 3]), part)
-            top = -Fraction(chance.randint(1, 30), chance.choice([1, 2, 7]))
-            behind = (trace - 1) * top + (2 - trace) * top * Fraction(chance.randint(0, 20), 20)
-            found.append((trace, top) + sequence_with_top(trace, top, behind, steps))
-    return found
-
-
-class Hills(Base):
-    def test_tops_between_steps(self):
-        for trace, top, one, two in hills():
-            for number in (TINY, Fraction(1, HUGE ** 2)):
-                self.check_around(trace, -top, one, two, True)
-                self.check_around(trace, -top + number, one, two, False)
-                self.check_around(trace, -top - number, one, two, True)
-
-    def test_both_ways_to_tell_agree(self):
-        told_ways = set()
-        for trace, top, one, two in hills():
-            for middle in (-top + TINY, -top - TINY, -top + Fraction(1, HUGE ** 2), -top - Fraction(1, HUGE ** 2)):
-                reckoned = values(middle + one, middle + two, middle + trace * two - one, trace, 45)
-                if two <= one or 0 in reckoned or any(one == two for one, two in zip(reckoned, reckoned[1:])):
-                    continue
-                numbers = [pair(number) for number in (one, two, trace, middle)]
-                answer = told_by_jumps(*numbers)
-                self.assertIs(answer, told_by_steps(*numbers, 50))
-                self.assertIs(answer, middle < -top)
-                told_ways.add(answer)
-        self.assertEqual(told_ways, {True, False})
-
-    def test_tops_that_come_very_late(self):
-        for places in (12, 20, 30):
-            trace = 2 + Fraction(1, 10 ** places)
-            for two in (Fraction(-3) + Fraction(1, 10 ** (places // 2)), Fraction(-3) + Fraction(3, 2 * 10 ** (places // 2))):
-                low, high = self.nearest_values(Fraction(-3), two, trace)
-                for middle, expected in [(-low, True), (-high, False)]:
-                    self.check_around(trace, middle, -3, two, expected)
-
-    def nearest_values(self, one, two, trace):
-        """Return numbers just above and just below the greatest e, reckoned with very many decimal places."""
-        with decimal.localcontext() as context:
-            context.prec = 250
-            a, b, t = [decimal.Decimal(number.numerator) / number.denominator for number in (one, two, trace)]
-            factor = (t + (t * t - 4).sqrt()) / 2
-            growing = (b - a / factor) / (factor - 1 / factor)
-            shrinking = a - growing
-            steps = int((shrinking / growing).ln() / factor.ln() / 2)
-            self.assertGreater(steps, 10 ** 5)
-            found = max(growing * factor ** n + shrinking / factor ** n for n in range(steps - 1, steps + 3))
-            return Fraction(found + decimal.Decimal(10) ** -150), Fraction(found - decimal.Decimal(10) ** -150)
 
 
 if __name__ == "__main__":

@@ -51,6 +51,25 @@ FUNCTIONS = {
         "minimum_stops": "(train)",
     },
     "telling": {"distinguishing_ray": "(train, other)"},
+    "bundles": {
+        "bundle": "(train, distance, height)", "pupils": "(train)", "field_of_view": "(train, distance)",
+        "bundle_widths": "(train, distance)", "acceptance_area": "(train)",
+    },
+    "synthesis": {"train_for_map": "(transfer)", "train_for_region": "(transfer, half_planes)"},
+    "tolerances": {
+        "clearances": "(train, rays)", "decenter_effect": "(train, index)",
+        "decenter_range": "(train, index, rays)",
+    },
+    "forever": {"stays_below": "(first, second, third, trace)"},
+    "resonators": {
+        "trace_of": "(transfer)", "power_of": "(transfer, many)", "order_of": "(transfer)",
+        "fixed_ray": "(transfer)", "passes": "(train, ray, most)", "pass_planes": "(train, many)",
+        "stays": "(train, ray)", "settled": "(train, most)", "is_kept": "(train)",
+    },
+    "catalogue": {"shortest_train": "(stock, train, most)"},
+    "journal": {
+        "record_of": "(operation)", "recovered": "(octets)", "opened": "(train, octets, power)",
+    },
 }
 CLASSES = {
     "errors": {
@@ -58,7 +77,18 @@ CLASSES = {
         "TokenError": "(token)", "PowerCut": "(written)", "NoDirection": "()", "EmptyRegion": "()",
         "NoRays": "()", "EndError": "()", "BadTrain": "()", "TrainFull": "()", "ShutError": "()",
     },
+    "bench": {"Bench": "(train)"},
+    "journal": {"Device": "(octets, power)", "JournaledBench": "(bench, device)"},
 }
+METHODS = {
+    ("bench", "Bench"): {
+        "train": "(self)", "operations": "(self)", "history": "(self)", "put": "(self, index, element)",
+        "take": "(self, index)", "exchange": "(self, index, element)", "undo": "(self)", "branch": "(self)",
+    },
+    ("journal", "Device"): {"append": "(self, octet)"},
+    ("journal", "JournaledBench"): {"perform": "(self, operation)"},
+}
+VALUES = {"rationals": ["ZERO", "ONE"], "maps": ["IDENTITY"]}
 
 
 def listed(table):
@@ -83,6 +113,19 @@ class Interface(unittest.TestCase):
                 self.assertEqual(found.__module__, f"raytrain.{module}")
                 if arguments is not None:
                     self.assertEqual(str(inspect.signature(found)), arguments)
+
+    def test_methods_stand_in_their_classes(self):
+        for (module, name), methods in METHODS.items():
+            found = getattr(importlib.import_module(f"raytrain.{module}"), name)
+            for method, arguments in methods.items():
+                with self.subTest(module=module, name=name, method=method):
+                    self.assertTrue(inspect.isfunction(vars(found)[method]))
+                    self.assertEqual(str(inspect.signature(vars(found)[method])), arguments)
+
+    def test_values(self):
+        for module, names in VALUES.items():
+            for name in names:
+                self.assertIsInstance(getattr(importlib.import_module(f"raytrain.{module}"), name), tuple)
 
 
 if __name__ == "__main__":

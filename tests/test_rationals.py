@@ -7,7 +7,7 @@ from fractions import Fraction
 from raytrain import rationals
 from raytrain.rationals import (
     absolute, add, common_divisor, compare, divide, fraction, greatest_of, is_at_most, is_less, least_of,
-    multiply, nearest_to_zero, negative, sign, subtract,
+    multiply, nearest_to_zero, negative, sign, span_between, subtract, whole_numbers,
 )
 from tests.helper import HUGE, WIDE, exact, is_fraction, pair, small_fractions, wide_fractions
 
@@ -241,6 +241,27 @@ class NearestToZero(unittest.TestCase):
                 self.assertTrue(low <= exact(nearest) <= high)
                 tried = [low, high] + ([Fraction(0)] if low <= 0 <= high else [])
                 self.assertEqual(abs(exact(nearest)), min(abs(number) for number in tried))
+
+
+class Helpers(unittest.TestCase):
+    def test_span_between(self):
+        self.assertEqual(span_between([], []), (None, None))
+        self.assertEqual(span_between([(1, 2), (1, 3)], []), ((1, 2), None))
+        self.assertEqual(span_between([], [(1, 2), (1, 3)]), (None, (1, 3)))
+        self.assertEqual(span_between([(1, 3)], [(1, 2)]), ((1, 3), (1, 2)))
+        self.assertEqual(span_between([(1, 2)], [(1, 2)]), ((1, 2), (1, 2)))
+        self.assertIsNone(span_between([(1, 2)], [(1, 3)]))
+        self.assertIsNone(span_between([(-5, 1), (0, 1)], [(7, 1), (-1, HUGE)]))
+
+    def test_whole_numbers(self):
+        self.assertEqual(whole_numbers([]), [])
+        self.assertEqual(whole_numbers([(2, 1), (-3, 1)]), [2, -3])
+        for values in [[(1, 2), (-1, 3)], [(0, 1), (5, 7)], wide_fractions()]:
+            found = whole_numbers(values)
+            ratios = {Fraction(number) / exact(value) for number, value in zip(found, values) if value[0] != 0}
+            self.assertEqual(len(ratios), 1)
+            self.assertGreater(ratios.pop(), 0)
+            self.assertEqual([number == 0 for number in found], [value[0] == 0 for value in values])
 
 
 if __name__ == "__main__":
